@@ -1,0 +1,1 @@
+"""Levels of a text that is written in two directions."""
