@@ -39,6 +39,22 @@ def levels(told, text):
     return [4, told, len(text), *text]
 
 
+def sequences(told, text):
+    return [5, told, len(text), *text]
+
+
+def line(told, first, many, text):
+    return [6, told, first, many, len(text), *text]
+
+
+def beside(told, first, many, place, right, text):
+    return [7, told, first, many, place, right, len(text), *text]
+
+
+def reading(line_levels, row):
+    return [8, len(line_levels), *line_levels, len(row), *row]
+
+
 def split(numbers):
     """The answers one by one, from the list that is given back."""
     found = []
@@ -57,6 +73,10 @@ def ask(*calls):
 EXAMPLE_TABLES = tables(EXAMPLE_CLASSES, EXAMPLE_PAIRS, EXAMPLE_MIRRORS)
 NAMED_TABLES = tables(NAMED_CLASSES, NAMED_PAIRS)
 
+# Every character of a text that is written by classes is shown by another one on odd levels.
+MIRROR = 500000
+SHOWING_TABLES = tables(NAMED_CLASSES, NAMED_PAIRS, [x for c in sorted(NAMED.values()) for x in (c, c + MIRROR)])
+
 
 def written(names):
     """The characters of a text that is written by its classes and brackets."""
@@ -70,6 +90,22 @@ def named_levels(told, names):
 
 def named_base(names):
     return ask(NAMED_TABLES, base(written(names)))[1]
+
+
+def named_sequences(told, names):
+    return ask(NAMED_TABLES, sequences(told, written(names)))[1]
+
+
+def named_line(told, names, first, many):
+    """The places as they're seen, in words; behind each that is mirrored stands a stroke."""
+    text = written(names)
+    answer = ask(SHOWING_TABLES, line(told, first, many, text))[1]
+    words = []
+    for place, shown in zip(answer[1::2], answer[2::2]):
+        words.append(f"{place}'" if shown == text[place] + MIRROR else f"{place}")
+        assert shown in (text[place], text[place] + MIRROR)
+    assert answer[0] == 0 and len(answer) == 1 + 2 * len(words)
+    return " ".join(words)
 
 
 class LevelsCase(unittest.TestCase):

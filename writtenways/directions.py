@@ -1,15 +1,17 @@
-"""The calls on one object, one behind another, and their answers."""
+"""The calls on one object, one behind another: how they are read and handed on."""
 
-from writtenways.paragraph import base_of, levels_of
-from writtenways.tables import Tables, is_character, refusal_of_tables
+from writtenways.desk import Desk
 
 TABLES = 1
 LOOKED = 2
 BASE = 3
 LEVELS = 4
+SEQUENCES = 5
+LINE = 6
+BESIDE = 7
 
-BY_THE_TEXT = 2
-MOST_CHARACTERS = 256
+# By the call's number: how many whole numbers it has, and how many rows behind them.
+SHAPES = {1: (0, 3), 2: (1, 0), 3: (0, 1), 4: (1, 1), 5: (1, 1), 6: (3, 1), 7: (5, 1), 8: (0, 2)}
 
 
 class UnknownCall(ValueError):
@@ -38,59 +40,33 @@ class Reader:
         return row
 
 
-def is_text(numbers):
-    return len(numbers) <= MOST_CHARACTERS and all([is_character(number) for number in numbers])
+def answer_of(desk, call, numbers, rows):
+    if call == TABLES:
+        return desk.keep_tables(rows[0], rows[1], rows[2])
+    if call == LOOKED:
+        return desk.look_up(numbers[0])
+    if call == BASE:
+        return desk.tell_base(rows[0])
+    if call == LEVELS:
+        return desk.tell_levels(numbers[0], rows[0])
+    if call == SEQUENCES:
+        return desk.tell_sequences(numbers[0], rows[0])
+    if call == LINE:
+        return desk.show_line(numbers[0], numbers[1], numbers[2], rows[0])
+    if call == BESIDE:
+        return desk.find_beside(numbers[0], numbers[1], numbers[2], numbers[3], numbers[4], rows[0])
+    # Of the calls that have a shape, reading alone is left.
+    return desk.put_in_reading(rows[0], rows[1])
 
 
-class Desk:
-    """The one object that the calls are made on: it keeps the tables."""
-
-    def __init__(self):
-        self.tables = Tables([], [], [])
-
-    def answer(self, reader):
-        call = reader.take_number()
-        if call == TABLES:
-            classes = reader.take_row()
-            pairs = reader.take_row()
-            mirrors = reader.take_row()
-            return self.keep_tables(classes, pairs, mirrors)
-        if call == LOOKED:
-            return self.looked(reader.take_number())
-        if call == BASE:
-            return self.base(reader.take_row())
-        if call == LEVELS:
-            told = reader.take_number()
-            return self.levels(told, reader.take_row())
+def answer_next(desk, reader):
+    call = reader.take_number()
+    if call not in SHAPES:
         raise UnknownCall(f"no call with the number {call} is known")
-
-    def keep_tables(self, classes, pairs, mirrors):
-        refusal = refusal_of_tables(classes, pairs, mirrors)
-        if refusal is not None:
-            return refusal
-        self.tables = Tables(classes, pairs, mirrors)
-        return [0]
-
-    def looked(self, character):
-        if not is_character(character):
-            return [-1]
-        kind = self.tables.kind_of(character)
-        shown = self.tables.shown_for(character)
-        bracket = self.tables.bracket_of(character)
-        if bracket is None:
-            return [0, kind, 0, 0, 0, shown]
-        return [0, kind, 1, bracket[0], bracket[1], shown]
-
-    def base(self, text):
-        if not is_text(text):
-            return [-1]
-        return [0, base_of(self.tables, text)]
-
-    def levels(self, told, text):
-        if told > BY_THE_TEXT or not is_text(text):
-            return [-1]
-        base = base_of(self.tables, text) if told == BY_THE_TEXT else told
-        return [0, base] + levels_of(self.tables, text, base)
+    shape = SHAPES[call]
+    numbers = [reader.take_number() for k in range(shape[0])]
+    rows = [reader.take_row() for k in range(shape[1])]
+    return answer_of(desk, call, numbers, rows)
 
 
 def answers(calls):
@@ -99,7 +75,7 @@ def answers(calls):
     desk = Desk()
     given = []
     while not reader.is_done():
-        answer = desk.answer(reader)
+        answer = answer_next(desk, reader)
         given.append(len(answer))
         given.extend(answer)
     return given

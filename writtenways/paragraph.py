@@ -1,4 +1,4 @@
-"""A paragraph: its base and its levels, from the classes to the last rule (I1, I2)."""
+"""A paragraph: its base, its sequences and its levels, from the classes to the last rule (I1, I2)."""
 
 from writtenways.brackets import settle_brackets
 from writtenways.isolates import base_between, partners_of
@@ -28,31 +28,35 @@ def raised(level, kind):
     return level + 1 if kind in (L, EN, AN) else level
 
 
-def settled_in(sequence, kinds, forced_kinds, brackets):
-    """The classes of the sequence's places when all rules but the last are done."""
-    settled = [forced_kinds[place] for place in sequence.places]
-    first_kinds = [kinds[place] for place in sequence.places]
-    beside = [brackets[place] for place in sequence.places]
-    settle_numbers(settled, sequence.before)
-    settle_brackets(settled, first_kinds, beside, sequence.level, sequence.before)
-    settle_neutrals(settled, sequence.level, sequence.before, sequence.behind)
-    return settled
+class Paragraph:
+    """A text by the base that's told: its classes at first and its sequences."""
 
+    def __init__(self, tables, text, base):
+        self.base = base
+        self.kinds = kinds_of(tables, text)
+        self.brackets = [tables.bracket_of(character) for character in text]
+        partners = partners_of(self.kinds)
+        nested = settle_begins(self.kinds, partners, base)
+        self.forced_kinds = [forced_kind for level, forced_kind in nested]
+        self.sequences = sequences_of(self.kinds, partners, [level for level, forced_kind in nested], base)
 
-def levels_of(tables, text, base):
-    """Each character's level by the base that's told."""
-    kinds = kinds_of(tables, text)
-    partners = partners_of(kinds)
-    nested = settle_begins(kinds, partners, base)
-    levels = [level for level, forced_kind in nested]
-    forced_kinds = [forced_kind for level, forced_kind in nested]
-    brackets = [tables.bracket_of(character) for character in text]
-    final = list(levels)
-    for sequence in sequences_of(kinds, partners, levels, base):
-        settled = settled_in(sequence, kinds, forced_kinds, brackets)
-        for place, kind in zip(sequence.places, settled):
-            final[place] = raised(sequence.level, kind)
-    for place in range(len(kinds)):
-        if is_left_out(kinds[place]):
-            final[place] = base if place == 0 else final[place - 1]
-    return final
+    def settled_in(self, sequence):
+        """The classes of the sequence's places when all rules but the last are done."""
+        settled = [self.forced_kinds[place] for place in sequence.places]
+        first_kinds = [self.kinds[place] for place in sequence.places]
+        brackets = [self.brackets[place] for place in sequence.places]
+        settle_numbers(settled, sequence.before)
+        settle_brackets(settled, first_kinds, brackets, sequence.level, sequence.before)
+        settle_neutrals(settled, sequence.level, sequence.before, sequence.behind)
+        return settled
+
+    def final_levels(self):
+        """Each character's level."""
+        levels = [self.base for kind in self.kinds]
+        for sequence in self.sequences:
+            for place, kind in zip(sequence.places, self.settled_in(sequence)):
+                levels[place] = raised(sequence.level, kind)
+        for place in range(1, len(levels)):
+            if is_left_out(self.kinds[place]):
+                levels[place] = levels[place - 1]
+        return levels
